@@ -476,7 +476,7 @@ func (x *run) owe(t *testing.T, e forwarder.Event, l []forwarder.Out) {
 	}
 }
 
-// P31.2, P31.3, P31.5 to P31.9, P31.11: any events, held against the model.
+// P31.2, P31.3, P31.5 to P31.9, P31.11, and P1, P3, P5, P7 of the whole: any events, held against the model.
 func TestAny(t *testing.T) {
 	r := rand.New(rand.NewSource(1))
 	var all [12]int
