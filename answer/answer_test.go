@@ -163,6 +163,24 @@ func TestOf(t *testing.T) {
 	}
 }
 
+// P28.2, P28.5: an answer that has just as many bytes as fit, and one that has one more.
+func TestExactly(t *testing.T) {
+	for _, x := range []struct{ edns, size, room int }{{-1, 4096, 512}, {0, 4096, 512}, {1232, 4096, 1232}, {4096, 1232, 1232}, {4096, 4096, 4096}, {65535, 4096, 4096}} {
+		c := asked(x.edns >= 0, max(x.edns, 0))
+		fixed := 20 + 12
+		if x.edns >= 0 {
+			fixed += 11
+		}
+		for more := range 3 {
+			v := api.Verdict{Sets: []api.Set{{Name: named("ex."), Type: 99, Class: api.IN, Data: []string{strings.Repeat("a", x.room-fixed-1+more)}}}}
+			s := answer.Of(c, v, 5, x.size)
+			if m := decode(t, s); m.TC != (more > 1) || !m.TC && len(s) != x.room-1+more {
+				t.Errorf("%v: %d bytes, TC %v", x, len(s), m.TC)
+			}
+		}
+	}
+}
+
 func randomVerdict(r *rand.Rand) api.Verdict {
 	v := addresses(r.Intn(80) / (1 + r.Intn(20)))
 	v.Code = uint8(r.Intn(2) * 3)

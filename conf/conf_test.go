@@ -161,7 +161,7 @@ func TestParse(t *testing.T) {
 		{text + "zone \\101x. strict\n", 13, api.ErrForm}, {text + "zone .. strict\n", 13, api.ErrForm}, {text + "zone . strict\n", 0, api.OK}, {text + "zone " + strings.Repeat("a", 64) + ". strict\n", 13, api.ErrForm},
 		{text + "zone ex. none\n", 13, api.ErrForm}, {text + "zone ex. union 1\n", 13, api.ErrForm}, {text + "zone ex. refuse\n", 0, api.OK}, {text + "zone ex. refuse 1\n", 13, api.ErrForm}, {text + "zone ex. union\n", 0, api.OK},
 		{text + "zone ex. trusted\n", 13, api.ErrForm}, {text + "zone ex. trusted \n", 13, api.ErrForm}, {text + "zone ex. trusted 0 2\n", 0, api.OK}, {text + "zone ex. trusted 2 0\n", 13, api.ErrForm}, {text + "zone ex. trusted 0 0\n", 13, api.ErrForm},
-		{text + "zone ex. trusted 16\n", 13, api.ErrForm}, {text + "zone ex. trusted 15\n", 0, api.ErrArg}, {text + "zone ex. trusted 3\n", 0, api.ErrArg}, {text + "zone ex. trusted 02\n", 13, api.ErrForm}, {text + "zone ex. trusted 0  2\n", 13, api.ErrForm},
+		{text + "zone ex. trusted 16\n", 13, api.ErrForm}, {text + "zone ex. trusted 0 16\n", 13, api.ErrForm}, {text + "zone ex. trusted 0 15\n", 0, api.ErrArg}, {text + "zone ex. trusted 15\n", 0, api.ErrArg}, {text + "zone ex. trusted 3\n", 0, api.ErrArg}, {text + "zone ex. trusted 02\n", 13, api.ErrForm}, {text + "zone ex. trusted 0  2\n", 13, api.ErrForm},
 		{text + "zone ex. trusted 0 2 \n", 13, api.ErrForm}, {text + "zone ex. trusted 0 x\n", 13, api.ErrForm}, {text + "zone ex. trusted -1\n", 13, api.ErrForm},
 		{text + "zone ex. strict\nzone ex. union\n", 0, api.ErrArg}, {text + "zone ex. strict\nzone\n", 14, api.ErrForm}, {at(1, "ups 4\n") + "zone ex. strict\nzone a. b\n", 14, api.ErrForm},
 		{text + strings.Repeat("zone a. strict\n", 17), 0, api.ErrArg},

@@ -681,7 +681,7 @@ func TestOwn(t *testing.T) {
 	c.Zones = []api.Zone{{Name: named("no."), Policy: api.Refuse}}
 	first := []uint64{0, 0, 5, 6}
 	f, _ := forwarder.New(c, 0, first)
-	c.Zones[0] = api.Zone{Name: named("ex."), Policy: api.Refuse}
+	c.Zones[0] = api.Zone{Name: "bad", Policy: 77}
 	first[0], first[2] = 2, 9
 	outs(t, do(t, f, client(7, asked)), toUp(1, "ex.", 5), toUp(2, "ex.", 6))
 	f.Counts()[0] = 99

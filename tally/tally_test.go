@@ -299,6 +299,26 @@ func TestUnique(t *testing.T) {
 	}
 }
 
+// P21.2: a copy and its box go on by themselves, in any order.
+func TestCopy(t *testing.T) {
+	for n := range 5 {
+		b := of(t, 9)
+		var l []card
+		for u := range n {
+			cast(t, b, u, u, 1)
+			l = append(l, card{u, u, 1})
+		}
+		c := b.Copy()
+		cast(t, c, 6, 6, 6)
+		cast(t, b, 7, 7, 7)
+		check(t, c, append(slices.Clone(l), card{6, 6, 6}), 9)
+		check(t, b, append(slices.Clone(l), card{7, 7, 7}), 9)
+		if e := c.Pass(8); e != api.OK || b.Has(8) {
+			t.Error(e)
+		}
+	}
+}
+
 // R3: new memory.
 func TestNewMemory(t *testing.T) {
 	b := of(t, 2)

@@ -338,6 +338,8 @@ func TestLength(t *testing.T) {
 		of(65536 - 23), of(65535), of(65536), of(200000),
 		{Questions: slices.Repeat([]api.Question{{Name: "\x00"}}, 65535)},
 		{Extra: slices.Repeat([]api.Record{soa}, 65535)},
+		{Answers: slices.Repeat([]api.Record{soa}, 65535)},
+		{Authority: slices.Repeat([]api.Record{soa}, 65535)},
 		{HasEdns: true, Edns: api.Edns{Options: []api.Option{{Data: strings.Repeat("a", 65513-4)}}}},
 		{HasEdns: true, Edns: api.Edns{Options: []api.Option{{Data: strings.Repeat("a", 70000)}}}},
 		{HasEdns: true, Edns: api.Edns{Options: slices.Repeat([]api.Option{{Data: "abc"}}, 10000)}},
@@ -358,6 +360,21 @@ func TestLength(t *testing.T) {
 	}
 	if n, e := wire.Size(full); n != 65535 || e != api.OK {
 		t.Error(n, e)
+	}
+}
+
+// P7.1: the greatest length, where it is a name in data that reaches it.
+func TestLengthOfNames(t *testing.T) {
+	for _, kind := range []uint16{api.NS, api.MX, api.SOA, api.SRV, 99} {
+		data := map[uint16]string{api.NS: ex, api.MX: "ab" + ex, api.SOA: ex + "\x02fx\x00" + twenty, api.SRV: "abcdef" + ex, 99: ex}[kind]
+		room := 65535 - 12 - 11 - 11 - len(data)
+		for n, want := range map[int]api.Errno{room - 1: api.OK, room: api.OK, room + 1: api.ErrLong, room + 2: api.ErrLong, room + len(data): api.ErrLong} {
+			m := api.Msg{Answers: []api.Record{{Name: "\x00", Type: 99, Data: strings.Repeat("a", n)}}, Extra: []api.Record{{Name: "\x00", Type: kind, Data: data}}}
+			s, e := wire.Encode(m)
+			if e != want || e == api.OK && s != write(m, false) || e != api.OK && s != "" {
+				t.Errorf("%d, %d: %d %v", kind, n-room, len(s), e)
+			}
+		}
 	}
 }
 
@@ -426,6 +443,8 @@ func TestDecodeErrors(t *testing.T) {
 		{"OPT with an option of one byte", counts(0, 0, 0, 1) + opted[:10] + "\x01\x00", api.ErrShort},
 		{"OPT without its data", counts(0, 0, 0, 1) + opted[:len(opted)-1], api.ErrShort},
 		{"too many bytes", none + strings.Repeat("\x00", 65532), api.ErrLong},
+		{"too many bytes, and no name", counts(1, 0, 0, 0) + strings.Repeat("\x40", 65524), api.ErrLong},
+		{"no name, and no more bytes than may be", counts(1, 0, 0, 0) + strings.Repeat("\x40", 65523), api.ErrForm},
 		{"the first error counts", counts(1, 1, 0, 0) + "\x40" + "\xC0\xff", api.ErrForm},
 	} {
 		if m, e := wire.Decode(x.s); e != x.e || !same(m, api.Msg{}) {
